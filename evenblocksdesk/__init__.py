@@ -1,0 +1,1 @@
+"""Points in blocks: plans of points, and how evenly they stand together."""
