@@ -1,4 +1,4 @@
-"""Sets of points as whole numbers: point p is in a set if its bit p is 1."""
+"""Sets of points, or of blocks' numbers, as whole numbers: p is in a set if its bit p is 1."""
 
 
 def rise_within(points, top):
@@ -17,6 +17,26 @@ def mask_of(points):
     for point in points:
         mask = mask | (1 << point)
     return mask
+
+
+def mask_up_to(top):
+    """The set of the points 1 to top."""
+    return mask_of(list(range(1, top + 1)))
+
+
+def has(mask, point):
+    """Whether the point is in the set."""
+    return (mask >> point) & 1 == 1
+
+
+def lowest_of(mask):
+    """The lowest point of the set, which must have one."""
+    return (mask & -mask).bit_length() - 1
+
+
+def points_of(mask):
+    """The points of the set, rising."""
+    return [point for point in range(mask.bit_length()) if has(mask, point)]
 
 
 def size_of(mask):

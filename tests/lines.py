@@ -7,6 +7,10 @@ HIGHEST = 4294967295
 STRENGTH = [5]
 DEGREES = [6]
 MEETS = [7]
+TURN = [8]
+FILL = [9]
+CLASSES = [14]
+BLOCKS = [15]
 
 FANO = [[1, 2, 3], [1, 4, 5], [1, 6, 7], [2, 4, 6], [2, 5, 7], [3, 4, 7], [3, 5, 6]]
 
@@ -37,9 +41,37 @@ def even(t):
     return [4, t]
 
 
+def around(x):
+    return [10, x]
+
+
+def away(x):
+    return [11, x]
+
+
+def inside(n):
+    return [12, n]
+
+
+def outside(n):
+    return [13, n]
+
+
 def plan(v, rows):
     """The calls that make a plan."""
     return [points(v)] + [block(*row) for row in rows]
+
+
+def wide_plan(rows):
+    """The calls that make a plan of twenty points, of one block or more: four points come by turning twice."""
+    calls = plan(16, [[p for p in rows[0] if p <= 16]]) + [TURN]
+    calls += [block(1) if p in rows[0] else block() for p in range(17, 21)]
+    return calls + [TURN] + [block(*row) for row in rows[1:]]
+
+
+def told(v, rows):
+    """A plan, told."""
+    return [v, len(rows)] + [number for row in rows for number in [len(row)] + list(row)]
 
 
 def eight():
@@ -51,13 +83,13 @@ def ask(calls):
     """The answers to the calls, a list for each."""
     line = [number for call in calls for number in call]
     handed = list(line)
-    told = answers(handed)
+    given = answers(handed)
     if handed != line:
         raise AssertionError("what was handed in is changed")
     split = []
-    while told:
-        split.append(told[1:1 + told[0]])
-        told = told[1 + told[0]:]
+    while given:
+        split.append(given[1:1 + given[0]])
+        given = given[1 + given[0]:]
     if len(split) != len(calls):
         raise AssertionError("not an answer for each call")
     return split

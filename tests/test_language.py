@@ -91,6 +91,15 @@ class Language(unittest.TestCase):
             used = {node.id for node in walked if isinstance(node, ast.Name) and isinstance(node.ctx, ast.Load)}
             self.assertLessEqual(used - bound, OWN_NAMES, path)
 
+    def test_locals_are_not_called_like_imports_and_classes(self):
+        for path, tree in trees():
+            drawn = {alias.name for node in tree.body if isinstance(node, ast.ImportFrom) for alias in node.names}
+            drawn |= {node.name for node in tree.body if isinstance(node, ast.ClassDef)}
+            walked = list(ast.walk(tree))
+            own = {node.id for node in walked if isinstance(node, ast.Name) and isinstance(node.ctx, ast.Store)}
+            own |= {node.arg for node in walked if isinstance(node, ast.arg)}
+            self.assertEqual(own & drawn, set(), path)
+
     def test_methods(self):
         for path, node in nodes(ast.Call):
             if isinstance(node.func, ast.Attribute):
